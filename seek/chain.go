@@ -28,7 +28,7 @@ func readChain(chain string) (plan, Errno, int) {
 	if len(chain) > maxChain {
 		return plan{}, ErrLong, 0
 	}
-	r := reader{text: chain}
+	r := chainReader{reader{text: chain}}
 	p, ok := r.plan()
 	if !ok {
 		return plan{}, ErrText, r.at
@@ -39,14 +39,9 @@ func readChain(chain string) (plan, Errno, int) {
 	return p, OK, 0
 }
 
-// reader reads a chain from the left on. When one of its methods answers
-// false, at is the place of the byte that no chain has there.
-type reader struct {
-	text string
-	at   int
-}
+type chainReader struct{ reader }
 
-func (r *reader) plan() (plan, bool) {
+func (r *chainReader) plan() (plan, bool) {
 	var p plan
 	for p.cutter.name == "" {
 		s, ok := r.step("tags", "fold", "map(", "words", "blanks", "whole")
@@ -76,7 +71,7 @@ func (r *reader) plan() (plan, bool) {
 	return p, true
 }
 
-func (r *reader) step(names ...string) (step, bool) {
+func (r *chainReader) step(names ...string) (step, bool) {
 	name, ok := r.oneOf(names)
 	s := step{name: name}
 	switch name {
@@ -92,7 +87,7 @@ func (r *reader) step(names ...string) (step, bool) {
 
 // oneOf reads one of the names, none of which begins another one. If none
 // stands there, the place is behind what stands there of any of them.
-func (r *reader) oneOf(names []string) (string, bool) {
+func (r *chainReader) oneOf(names []string) (string, bool) {
 	longest := 0
 	for _, name := range names {
 		n := common(r.text[r.at:], name)
@@ -115,36 +110,13 @@ func common(a, b string) int {
 	return n
 }
 
-// byteWithin reads one byte from low to high.
-func (r *reader) byteWithin(low, high byte) (byte, bool) {
-	if r.at == len(r.text) || r.text[r.at] < low || r.text[r.at] > high {
-		return 0, false
-	}
-	r.at++
-	return r.text[r.at-1], true
-}
-
-func (r *reader) sign(b byte) bool {
-	_, ok := r.byteWithin(b, b)
-	return ok
-}
-
 // list reads items with commas between them, and the bracket behind them.
-func list[T any](r *reader, item func() (T, bool)) ([]T, bool) {
-	var items []T
-	for {
-		one, ok := item()
-		if !ok {
-			return nil, false
-		}
-		items = append(items, one)
-		if !r.sign(',') {
-			return items, r.sign(')')
-		}
-	}
+func list[T any](r *chainReader, item func() (T, bool)) ([]T, bool) {
+	items, ok := row(&r.reader, ',', item)
+	return items, ok && r.sign(')')
 }
 
-func (r *reader) pair() (pair, bool) {
+func (r *chainReader) pair() (pair, bool) {
 	left, ok := r.word()
 	if !ok || !r.sign('=') {
 		return pair{}, false
@@ -154,7 +126,7 @@ func (r *reader) pair() (pair, bool) {
 }
 
 // word answers a copy, so that what is made of a chain keeps nothing of it.
-func (r *reader) word() (string, bool) {
+func (r *chainReader) word() (string, bool) {
 	from := r.at
 	for r.at < from+maxWord {
 		if _, ok := r.byteWithin('a', 'z'); !ok {
@@ -164,7 +136,7 @@ func (r *reader) word() (string, bool) {
 	return strings.Clone(r.text[from:r.at]), r.at > from
 }
 
-func (r *reader) bounds() (low, high int, ok bool) {
+func (r *chainReader) bounds() (low, high int, ok bool) {
 	first, ok := r.byteWithin('1', '9')
 	if !ok || !r.sign(',') {
 		return 0, 0, false

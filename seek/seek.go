@@ -1,13 +1,22 @@
 // Package seek: texts taken apart into terms, an index of them, questions, and marks: see DOC.md.
 package seek
 
-import "slices"
+import (
+	"maps"
+	"slices"
+)
 
 const (
 	maxChain  = 80
 	maxStages = 8
+	maxFields = 3
+	maxName   = 8 // letters
 	maxText   = 120
 	maxTokens = 300
+	maxDocs   = 12
+	maxId     = 999
+	maxQuery  = 100
+	maxDepth  = 6
 )
 
 // Errno is what a call answers: OK or the reason for a refusal.
@@ -48,7 +57,10 @@ type Passage struct {
 }
 
 // Engine is documents. Make it by New or Load.
-type Engine struct{}
+type Engine struct {
+	fields []*field
+	docs   map[int]struct{} // by their ids
+}
 
 // Split answers the characters of a text (P2).
 func Split(text string) ([]Char, Errno) {
@@ -76,16 +88,55 @@ func Analyse(chain string, text string) ([]Token, Errno, int) {
 }
 
 // New makes an engine (P5).
-func New(fields []Field) (*Engine, Errno, int) { return nil, 0, 0 }
+func New(fields []Field) (*Engine, Errno, int) {
+	if len(fields) == 0 || len(fields) > maxFields {
+		return nil, ErrArg, 0
+	}
+	e := &Engine{docs: map[int]struct{}{}}
+	for n, f := range fields {
+		made, err := e.makeField(f)
+		if err != OK {
+			return nil, err, n
+		}
+		e.fields = append(e.fields, made)
+	}
+	return e, OK, 0
+}
 
 // Put lays a document (P5).
-func (e *Engine) Put(id int, texts []string) (Errno, int) { return 0, 0 }
+func (e *Engine) Put(id int, texts []string) (Errno, int) {
+	if id < 0 || id > maxId || len(texts) != len(e.fields) {
+		return ErrArg, 0
+	}
+	taken, err, at := e.take(texts)
+	if err != OK {
+		return err, at
+	}
+	if !e.has(id) && len(e.docs) == maxDocs {
+		return ErrFull, 0
+	}
+	e.drop(id)
+	e.add(id, taken)
+	return OK, 0
+}
 
 // Del takes a document away (P5).
-func (e *Engine) Del(id int) Errno { return 0 }
+func (e *Engine) Del(id int) Errno {
+	if !e.has(id) {
+		return ErrNone
+	}
+	e.drop(id)
+	return OK
+}
 
 // Find answers the documents for which a query holds (P6).
-func (e *Engine) Find(query string) ([]int, Errno, int) { return nil, 0, 0 }
+func (e *Engine) Find(query string) ([]int, Errno, int) {
+	q, err, at := e.question(query)
+	if err != OK {
+		return nil, err, at
+	}
+	return find(slices.Collect(maps.Keys(e.docs)), q.holds), OK, 0
+}
 
 // Mark marks what a query wants (P7).
 func (e *Engine) Mark(query string, id int, field string, size int, count int) ([]Passage, Errno, int) {
