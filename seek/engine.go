@@ -8,28 +8,34 @@ import (
 // field is a field of an engine: what takes its texts apart, and what they
 // have.
 type field struct {
-	name string
+	Field
 	analyser
 	index index
 }
 
 // makeField makes one that stands behind those that there are.
 func (e *Engine) makeField(f Field) (*field, Errno) {
-	if !isName(f.Name) || len(f.Name) > maxName || len(e.asked(f.Name)) > 0 {
+	if !isName(f.Name) || len(f.Name) > maxName || e.numberOf(f.Name) >= 0 {
 		return nil, ErrName
 	}
 	p, err, _ := readChain(f.Chain)
 	if err != OK {
 		return nil, err
 	}
-	return &field{strings.Clone(f.Name), analyser{plan: p}, index{}}, OK
+	own := Field{strings.Clone(f.Name), strings.Clone(f.Chain)}
+	return &field{own, analyser{plan: p}, index{}}, OK
+}
+
+// numberOf is the number of the field with that name, or -1.
+func (e *Engine) numberOf(name string) int {
+	return slices.IndexFunc(e.fields, func(f *field) bool { return f.Name == name })
 }
 
 // asked are the fields that a text with that name asks: all, if it is "".
 func (e *Engine) asked(name string) []*field {
 	var found []*field
 	for _, f := range e.fields {
-		if name == "" || name == f.name {
+		if name == "" || name == f.Name {
 			found = append(found, f)
 		}
 	}
@@ -54,11 +60,14 @@ func (e *Engine) has(id int) bool {
 	return ok
 }
 
-func (e *Engine) add(id int, taken [][]Token) {
-	e.docs[id] = struct{}{}
-	for n, tokens := range taken {
-		e.fields[n].index.add(id, tokens)
+// add needs the texts of a new document, and their tokens.
+func (e *Engine) add(id int, texts []string, taken [][]Token) {
+	own := make([]string, len(texts))
+	for n, f := range e.fields {
+		own[n] = strings.Clone(texts[n])
+		f.index.add(id, taken[n])
 	}
+	e.docs[id] = own
 }
 
 func (e *Engine) drop(id int) {
@@ -70,8 +79,15 @@ func (e *Engine) drop(id int) {
 
 // question is a query, and what each of its texts asks of the fields.
 type question struct {
-	rule    rule
-	phrases [][]phrase
+	query
+	parts [][]part
+}
+
+// part is what a text asks of one field.
+type part struct {
+	field  *field
+	tokens []Token
+	phrase phrase
 }
 
 func (e *Engine) question(query string) (question, Errno, int) {
@@ -84,31 +100,31 @@ func (e *Engine) question(query string) (question, Errno, int) {
 			return question{}, ErrName, a.nameAt
 		}
 	}
-	q := question{rule: read.rule}
+	q := question{query: read}
 	for _, a := range read.texts {
-		phrases, err := e.phrases(a)
+		parts, err := e.parts(a)
 		if err != OK {
 			return question{}, err, a.textAt
 		}
-		q.phrases = append(q.phrases, phrases)
+		q.parts = append(q.parts, parts)
 	}
 	return q, OK, 0
 }
 
-func (e *Engine) phrases(a ask) ([]phrase, Errno) {
-	var found []phrase
+func (e *Engine) parts(a ask) ([]part, Errno) {
+	var found []part
 	for _, f := range e.asked(a.name) {
 		tokens, err := f.take(a.text)
 		if err != OK {
 			return nil, err
 		}
-		found = append(found, f.index.phrase(tokens))
+		found = append(found, part{f, tokens, f.index.phrase(tokens)})
 	}
 	return found, OK
 }
 
 func (q question) holds(id int) bool {
 	return q.rule(func(text int) bool {
-		return slices.ContainsFunc(q.phrases[text], func(p phrase) bool { return p.in(id) })
+		return slices.ContainsFunc(q.parts[text], func(p part) bool { return p.phrase.in(id) })
 	})
 }

@@ -301,6 +301,14 @@ type library struct {
 	docs   map[int][]string
 }
 
+// newLibrary makes one without documents, with one to three fields.
+func newLibrary(source *rand.Rand) library {
+	fields := fieldsOf("b", "tags;fold;words;low;stop(the,a);stem;syn(car=auto,car=x)",
+		"t", "words;gram(2,3)", "u", "map(ca=x);blanks;edge(1,2)")[:1+source.Intn(3)]
+	e, _, _ := seek.New(fields)
+	return library{e, fields, map[int][]string{}}
+}
+
 // asks says again what a text asks of a field, by trying every number.
 func (l library) asks(text string, field, id int) bool {
 	asked, _, _ := seek.Analyse(l.fields[field].Chain, text)
@@ -379,9 +387,7 @@ func words(source *rand.Rand, most int) string {
 func TestFindAgreesWithEveryDocument(t *testing.T) {
 	source := rand.New(rand.NewSource(4))
 	for range 150 {
-		l := library{fields: fieldsOf("b", "fold;words;low;stop(the,a);stem;syn(car=auto,car=x)",
-			"t", "words;gram(2,3)", "u", "blanks;edge(1,2)")[:1+source.Intn(3)], docs: map[int][]string{}}
-		l.engine, _, _ = seek.New(l.fields)
+		l := newLibrary(source)
 		for range 40 {
 			l.change(t, source)
 			query, holds := l.asker(source, 3, 0)

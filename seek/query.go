@@ -10,10 +10,12 @@ import (
 type rule func(holds func(text int) bool) bool
 
 // ask is a text of a query and the name of the field that it asks, "" for
-// all of them, and the places of both.
+// all of them, and the places of both. It is denied if it stands behind an
+// odd number of !.
 type ask struct {
 	name, text     string
 	nameAt, textAt int
+	denied         bool
 }
 
 // query is one that was read; its texts are in the order of their places.
@@ -42,6 +44,7 @@ func readQuery(text string) (query, Errno, int) {
 type queryReader struct {
 	reader
 	texts   []ask
+	denied  bool // so are the texts that come
 	depth   int
 	tooDeep int // the first place, which is never 0, as others stand ahead of it
 }
@@ -76,7 +79,9 @@ func (r *queryReader) bareOne() (rule, bool) {
 	case r.sign('!'):
 		r.enter(at)
 		defer r.leave()
+		r.denied = !r.denied
 		part, ok := r.one()
+		r.denied = !r.denied
 		return not(part), ok
 	case r.sign('('):
 		r.enter(at)
@@ -97,7 +102,7 @@ func (r *queryReader) enter(at int) {
 func (r *queryReader) leave() { r.depth-- }
 
 func (r *queryReader) ask() (rule, bool) {
-	a := ask{nameAt: r.at, textAt: r.at}
+	a := ask{nameAt: r.at, textAt: r.at, denied: r.denied}
 	a.text = r.run(isBare)
 	if isName(a.text) && r.sign(':') {
 		a.name, a.textAt = a.text, r.at

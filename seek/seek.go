@@ -4,6 +4,7 @@ package seek
 import (
 	"maps"
 	"slices"
+	"strings"
 )
 
 const (
@@ -59,7 +60,7 @@ type Passage struct {
 // Engine is documents. Make it by New or Load.
 type Engine struct {
 	fields []*field
-	docs   map[int]struct{} // by their ids
+	docs   map[int][]string // the texts, by the documents' ids
 }
 
 // Split answers the characters of a text (P2).
@@ -92,7 +93,7 @@ func New(fields []Field) (*Engine, Errno, int) {
 	if len(fields) == 0 || len(fields) > maxFields {
 		return nil, ErrArg, 0
 	}
-	e := &Engine{docs: map[int]struct{}{}}
+	e := &Engine{docs: map[int][]string{}}
 	for n, f := range fields {
 		made, err := e.makeField(f)
 		if err != OK {
@@ -116,7 +117,7 @@ func (e *Engine) Put(id int, texts []string) (Errno, int) {
 		return ErrFull, 0
 	}
 	e.drop(id)
-	e.add(id, taken)
+	e.add(id, texts, taken)
 	return OK, 0
 }
 
@@ -140,11 +141,43 @@ func (e *Engine) Find(query string) ([]int, Errno, int) {
 
 // Mark marks what a query wants (P7).
 func (e *Engine) Mark(query string, id int, field string, size int, count int) ([]Passage, Errno, int) {
-	return nil, 0, 0
+	q, err, at := e.question(query)
+	if err != OK {
+		return nil, err, at
+	}
+	number := e.numberOf(field)
+	switch {
+	case !e.has(id):
+		return nil, ErrNone, 0
+	case number < 0:
+		return nil, ErrName, 0
+	case size < 1 || size > maxText || count < 1 || count > maxText:
+		return nil, ErrArg, 0
+	}
+	marks := e.marks(q, id, number)
+	return richest(passages(marks, size), count), OK, 0
 }
 
 // Save writes an engine (P9).
-func (e *Engine) Save() string { return "" }
+func (e *Engine) Save() string {
+	var b strings.Builder
+	for _, f := range e.fields {
+		b.WriteString(f.Name + ":" + f.Chain + "\n")
+	}
+	for _, id := range slices.Sorted(maps.Keys(e.docs)) {
+		b.WriteString(documentLine(id, e.docs[id]))
+	}
+	return b.String()
+}
 
 // Load reads one (P9).
-func Load(fields []Field, image string) (*Engine, Errno, int) { return nil, 0, 0 }
+func Load(fields []Field, image string) (*Engine, Errno, int) {
+	e, err, at := New(fields)
+	if err != OK {
+		return nil, err, at
+	}
+	if !e.read(image) {
+		return nil, ErrImage, 0
+	}
+	return e, OK, 0
+}
